@@ -7,20 +7,23 @@ import (
 	"testing"
 
 	"gristmill/api"
+	"gristmill/deque"
 	"gristmill/queue"
 	"gristmill/stack"
 )
 
-// kind is an object that is a list: what it does, and at which place of n that one stands which Take and Peek tell.
+// kind is an object that is a list: what it does, at which place of n that one stands which Take and Peek tell, and whether Front and Back are of it.
 type kind struct {
 	name string
 	do   func([]int, api.Op) ([]int, api.Answer)
 	at   func(n int) int
+	both bool
 }
 
 var kinds = []kind{
-	{"queue", queue.Do, func(n int) int { return 0 }},
-	{"stack", stack.Do, func(n int) int { return n - 1 }},
+	{"queue", queue.Do, func(n int) int { return 0 }, false},
+	{"stack", stack.Do, func(n int) int { return n - 1 }, false},
+	{"deque", deque.Do, func(n int) int { return 0 }, true},
 }
 
 // full has just as many as there is room for.
@@ -32,10 +35,10 @@ var someLists = [][]int{
 	{4, 9, 2, 7, 5, 8, 3}, {4, 9, 2, 7, 5, 8, 3, 1, 60}, {-1, math.MinInt, math.MaxInt},
 }
 
-// What is none of theirs: a deque's, what there is not, and some that would pass if they were cut to 32, or to 8, bits.
+// What there is not, and some that would pass if they were cut to 32, or to 8, bits.
 var wrongWhats = []int{
-	api.Front, api.Back, 0, -1, -2, -api.Count, api.Count + 1, api.Count + 2,
-	1<<8 + api.Put, 1<<32 + api.Put, 1<<32 + api.Take, math.MinInt, math.MinInt + api.Take, math.MaxInt,
+	0, -1, -2, -api.Front, -api.Count, api.Count + 1, api.Count + 2, 1<<8 + api.Put, 1<<8 + api.Back,
+	1<<32 + api.Put, 1<<32 + api.Take, 1<<32 + api.Front, math.MinInt, math.MinInt + api.Take, math.MinInt + api.Back, math.MaxInt,
 }
 
 // Values (and keys) at the edges, and such as no operation that is right has: lists ask nothing of them.
@@ -58,6 +61,24 @@ func told(k kind, l []int, o api.Op) ([]int, api.Answer) {
 		return l, api.Answer{Code: 1, Value: l[k.at(n)]}
 	case o.What == 6:
 		return l, api.Answer{Code: 1, Value: n}
+	case k.both:
+		return toldOfBoth(l, o)
+	}
+	return l, api.Answer{Code: 5}
+}
+
+// toldOfBoth is told of what only an object with two ends does.
+func toldOfBoth(l []int, o api.Op) ([]int, api.Answer) {
+	n := len(l)
+	switch {
+	case o.What == 3 && n >= 6:
+		return l, api.Answer{Code: 3}
+	case o.What == 3:
+		return slices.Concat([]int{o.Value}, l), api.Answer{Code: 1}
+	case o.What == 4 && n == 0:
+		return l, api.Answer{Code: 2}
+	case o.What == 4:
+		return l[:n-1], api.Answer{Code: 1, Value: l[n-1]}
 	}
 	return l, api.Answer{Code: 5}
 }
@@ -112,7 +133,7 @@ func ask(t *testing.T, k kind, l []int, o api.Op) {
 
 // TestEachOfEach asks for every operation with every list.
 func TestEachOfEach(t *testing.T) {
-	whats := slices.Concat([]int{api.Put, api.Take, api.Peek, api.Count}, wrongWhats)
+	whats := slices.Concat([]int{api.Put, api.Take, api.Front, api.Back, api.Peek, api.Count}, wrongWhats)
 	for _, k := range kinds {
 		for _, l := range someLists {
 			for _, what := range whats {
