@@ -8,30 +8,32 @@ import (
 
 	"gristmill/api"
 	"gristmill/deque"
+	"gristmill/heap"
 	"gristmill/queue"
 	"gristmill/stack"
 )
 
-// kind is an object that is a list: what it does, at which place of n that one stands which Take and Peek tell, and whether Front and Back are of it.
+// kind is an object that is a list: what it does, and what the document tells of it.
 type kind struct {
 	name string
 	do   func([]int, api.Op) ([]int, api.Answer)
-	at   func(n int) int
-	both bool
+	told func([]int, api.Op) ([]int, api.Answer)
 }
 
 var kinds = []kind{
-	{"queue", queue.Do, func(n int) int { return 0 }, false},
-	{"stack", stack.Do, func(n int) int { return n - 1 }, false},
-	{"deque", deque.Do, func(n int) int { return 0 }, true},
+	{"queue", queue.Do, toldOfQueue},
+	{"stack", stack.Do, toldOfStack},
+	{"deque", deque.Do, toldOfDeque},
+	{"heap", heap.Do, toldOfHeap},
 }
 
 // full has just as many as there is room for.
 var full = []int{4, 9, 2, 7, 5, 8}
 
-// Lists of each length about Room, no two things of one alike, so that none passes for another; and such as no object has, of which nothing else is told.
+// Lists of each length about Room, no two things of one alike, so that none passes for another; some that are heaps; and such as no object has, of which nothing else is told.
 var someLists = [][]int{
 	nil, {}, {4}, {0}, {4, 9}, {0, 4294967295}, {4294967295, 0, 4294967294}, full[:4], full[:5], full,
+	{1, 2, 3}, {1, 3, 2, 9}, {1, 2, 2, 5, 6}, {2, 4, 3, 9, 7, 8}, {0, 0, 4294967295, 0, 1, 4294967295},
 	{4, 9, 2, 7, 5, 8, 3}, {4, 9, 2, 7, 5, 8, 3, 1, 60}, {-1, math.MinInt, math.MaxInt},
 }
 
@@ -44,8 +46,8 @@ var wrongWhats = []int{
 // Values (and keys) at the edges, and such as no operation that is right has: lists ask nothing of them.
 var someValues = []int{0, 1, 7, 1000, 1001, 1<<31 - 1, 1 << 31, api.MaxValue - 1, api.MaxValue, api.MaxValue + 1, -1, math.MinInt, math.MaxInt}
 
-// told is what the document's words say of an operation, in plain numbers.
-func told(k kind, l []int, o api.Op) ([]int, api.Answer) {
+// told is what the document's words say of an operation, in plain numbers; that one which Take and Peek tell stands at a place.
+func told(l []int, o api.Op, at int) ([]int, api.Answer) {
 	n := len(l)
 	switch {
 	case o.What == 1 && n >= 6:
@@ -55,20 +57,21 @@ func told(k kind, l []int, o api.Op) ([]int, api.Answer) {
 	case (o.What == 2 || o.What == 5) && n == 0:
 		return l, api.Answer{Code: 2}
 	case o.What == 2:
-		at := k.at(n)
 		return slices.Concat(l[:at], l[at+1:]), api.Answer{Code: 1, Value: l[at]}
 	case o.What == 5:
-		return l, api.Answer{Code: 1, Value: l[k.at(n)]}
+		return l, api.Answer{Code: 1, Value: l[at]}
 	case o.What == 6:
 		return l, api.Answer{Code: 1, Value: n}
-	case k.both:
-		return toldOfBoth(l, o)
 	}
 	return l, api.Answer{Code: 5}
 }
 
-// toldOfBoth is told of what only an object with two ends does.
-func toldOfBoth(l []int, o api.Op) ([]int, api.Answer) {
+func toldOfQueue(l []int, o api.Op) ([]int, api.Answer) { return told(l, o, 0) }
+
+func toldOfStack(l []int, o api.Op) ([]int, api.Answer) { return told(l, o, len(l)-1) }
+
+// toldOfDeque: Front and Back are of it too.
+func toldOfDeque(l []int, o api.Op) ([]int, api.Answer) {
 	n := len(l)
 	switch {
 	case o.What == 3 && n >= 6:
@@ -80,7 +83,49 @@ func toldOfBoth(l []int, o api.Op) ([]int, api.Answer) {
 	case o.What == 4:
 		return l[:n-1], api.Answer{Code: 1, Value: l[n-1]}
 	}
-	return l, api.Answer{Code: 5}
+	return toldOfQueue(l, o)
+}
+
+// toldOfHeap goes by the document's words also where a list is not Right: of such nothing is promised but that the call ends and leaves the list alone, and its words have a meaning there too.
+func toldOfHeap(l []int, o api.Op) ([]int, api.Answer) {
+	more, a := toldOfQueue(l, o)
+	switch {
+	case a.Code == 1 && o.What == 1:
+		return risen(more, len(more)-1), a
+	case a.Code == 1 && o.What == 2 && len(more) > 0:
+		last := len(more) - 1
+		return sunk(slices.Concat(more[last:], more[:last]), 0), a
+	}
+	return more, a
+}
+
+// risen is a list whose one at a place went up, change by change.
+func risen(l []int, i int) []int {
+	if i == 0 || l[i] >= l[(i-1)/2] {
+		return l
+	}
+	return risen(changed(l, i, (i-1)/2), (i-1)/2)
+}
+
+// sunk is a list whose one at a place went down, change by change.
+func sunk(l []int, i int) []int {
+	lesser, n := -1, len(l)
+	for _, c := range []int{2*i + 2, 2*i + 1} {
+		if c < n && (lesser < 0 || l[c] <= l[lesser]) {
+			lesser = c
+		}
+	}
+	if lesser < 0 || l[lesser] >= l[i] {
+		return l
+	}
+	return sunk(changed(l, i, lesser), lesser)
+}
+
+// changed is a list of which two changed places.
+func changed(l []int, i, j int) []int {
+	c := slices.Clone(l)
+	c[i], c[j] = l[j], l[i]
+	return c
 }
 
 // spoil writes into all that a list has, and into what stands behind its length.
@@ -107,7 +152,7 @@ func handed(l []int, behind int) (given, whole []int) {
 // ask does an operation with a list, and asks for what is told of it; neither what was handed in nor what comes of another call may feel it.
 func ask(t *testing.T, k kind, l []int, o api.Op) {
 	t.Helper()
-	want, answer := told(k, l, o)
+	want, answer := k.told(l, o)
 	for _, behind := range []int{0, 1, 5} {
 		given, whole := handed(l, behind)
 		before := slices.Clone(whole)
