@@ -209,6 +209,17 @@ func TestLeastAndGreatest(t *testing.T) {
 	)
 }
 
+// TestPutAsksNothingOfTheValue: the document names no bound of it there; slots with such a value are not Right.
+func TestPutAsksNothingOfTheValue(t *testing.T) {
+	for _, v := range []int{-1, 4294967296, math.MinInt, math.MaxInt} {
+		s := slots{7: {3, v}}
+		tell(t, slots{}, asked{api.Put, 3, v, api.Done, 0, s})
+		if table.Right(s) {
+			t.Errorf("Right(%v): true", s)
+		}
+	}
+}
+
 func TestWrong(t *testing.T) {
 	for _, s := range []slots{{}, {7: {3, 7}}, {0: {11, 2}, 7: {3, 1}}, full} {
 		for _, what := range wrongWhats {
